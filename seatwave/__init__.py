@@ -1,0 +1,1 @@
+"""Stadium wave simulator: an excitable cellular automaton on a ring."""
