@@ -12,9 +12,20 @@ MIRROR = 8
 SIT_DOWN = 9
 GET_RING = 10
 GET_SECTION = 11
+RING_AFTER = 12
+WINDING_NUMBER = 13
+STEPS_UNTIL_QUIET = 14
+CYCLE = 15
+FORWARD_WAVES = 16
+BACKWARD_WAVES = 17
+STANDING_COUNT = 18
+MAX_STANDING = 19
+FIRST_STANDING = 20
+QUIET_IF_STAND_UP = 21
+GET_STATE = 22
 
 # By call number: how many arguments follow it. The 0 of set_all is not used, as its row tells its own length.
-ARGUMENT_COUNTS = (1, 2, 0, 1, 2, 0, 1, 1, 0, 0, 0, 1)
+ARGUMENT_COUNTS = (1, 2, 0, 1, 2, 0, 1, 1, 0, 0, 0, 1, 1, 0, 0, 0, 0, 0, 0, 0, 1, 1, 0)
 
 
 def split_calls(calls):

@@ -35,3 +35,10 @@ class OutOfRange(Refusal):
 
     def __init__(self):
         Refusal.__init__(self, -22)
+
+
+class NeverHappens(Refusal):
+    """The ring never becomes quiet, or the section never stands."""
+
+    def __init__(self):
+        Refusal.__init__(self, -33)

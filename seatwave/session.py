@@ -1,7 +1,9 @@
 """One session: calls on one simulator, which create makes."""
 
-from seatwave.calls import ADVANCE, CREATE, GET_RING, MIRROR, ROTATE, SET_ALL, SET_SECTION, SIT_DOWN
-from seatwave.calls import STAND_UP, START_WAVE, STEP
+from seatwave.calls import ADVANCE, BACKWARD_WAVES, CREATE, CYCLE, FIRST_STANDING, FORWARD_WAVES, GET_RING
+from seatwave.calls import GET_SECTION, MAX_STANDING, MIRROR, QUIET_IF_STAND_UP, RING_AFTER, ROTATE, SET_ALL
+from seatwave.calls import SET_SECTION, SIT_DOWN, STAND_UP, STANDING_COUNT, START_WAVE, STEP, STEPS_UNTIL_QUIET
+from seatwave.calls import WINDING_NUMBER
 from seatwave.refusals import NoSimulator, OutOfRange, Refusal
 from seatwave.simulator import Simulator
 
@@ -34,7 +36,29 @@ def answer_query(simulator, number, arguments):
     """Answer a call that never changes the simulator."""
     if number == GET_RING:
         return simulator.get_ring()
-    return [simulator.get_section(arguments[0])]
+    if number == GET_SECTION:
+        return [simulator.get_section(arguments[0])]
+    if number == RING_AFTER:
+        return simulator.ring_after(arguments[0])
+    if number == WINDING_NUMBER:
+        return simulator.winding_number()
+    if number == STEPS_UNTIL_QUIET:
+        return [simulator.steps_until_quiet()]
+    if number == CYCLE:
+        return simulator.cycle()
+    if number == FORWARD_WAVES:
+        return simulator.forward_waves()
+    if number == BACKWARD_WAVES:
+        return simulator.backward_waves()
+    if number == STANDING_COUNT:
+        return [simulator.standing_count()]
+    if number == MAX_STANDING:
+        return [simulator.max_standing()]
+    if number == FIRST_STANDING:
+        return [simulator.first_standing(arguments[0])]
+    if number == QUIET_IF_STAND_UP:
+        return [simulator.quiet_if_stand_up(arguments[0])]
+    return simulator.get_state()
 
 
 class Session:

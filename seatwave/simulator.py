@@ -1,8 +1,10 @@
 """One simulator: a ring of sections and the number of its completed steps."""
 
+from seatwave.forecast import cycle_of, most_standing, steps_to_quiet, steps_to_standing
 from seatwave.refusals import NoSection, NotSeated, OutOfRange
 from seatwave.rules import RESTING, SEATED, STANDING
 from seatwave.rules import after_step, after_steps, mirrored, next_section, previous_section, rotated, standing_in
+from seatwave.waves import backward_waves_in, forward_waves_in, winding_of
 
 TOWARDS_NEXT = 0
 TOWARDS_PREVIOUS = 1
@@ -109,3 +111,55 @@ class Simulator:
         """Return the state of section i."""
         self.require_section(i)
         return self.states[i]
+
+    def ring_after(self, steps):
+        """Return the number of sections and then their states after several steps."""
+        require_at_most(steps, MOST_STEPS)
+        return [len(self.states)] + after_steps(self.states, steps)
+
+    def winding_number(self):
+        """Return 0 and then the winding number."""
+        return [0, winding_of(self.states)]
+
+    def steps_until_quiet(self):
+        """Return after how many steps the ring is quiet for the first time."""
+        return steps_to_quiet(self.states)
+
+    def cycle(self):
+        """Return the start and the period of the cycle."""
+        return cycle_of(self.states)
+
+    def forward_waves(self):
+        """Return the number of forward waves and then their sections."""
+        sections = forward_waves_in(self.states)
+        return [len(sections)] + sections
+
+    def backward_waves(self):
+        """Return the number of backward waves and then their sections."""
+        sections = backward_waves_in(self.states)
+        return [len(sections)] + sections
+
+    def standing_count(self):
+        """Return how many sections are standing."""
+        return standing_in(self.states)
+
+    def max_standing(self):
+        """Return the greatest number of standing sections now or later."""
+        return most_standing(self.states)
+
+    def first_standing(self, i):
+        """Return after how many steps section i is standing for the first time."""
+        self.require_section(i)
+        return steps_to_standing(self.states, i)
+
+    def quiet_if_stand_up(self, i):
+        """Return after how many steps the ring would be quiet if seated section i were made to stand."""
+        self.require_section(i)
+        self.require_seated(i)
+        risen = list(self.states)
+        risen[i] = STANDING
+        return steps_to_quiet(risen)
+
+    def get_state(self):
+        """Return the number of sections, of completed steps and of standing sections."""
+        return [len(self.states), self.time, standing_in(self.states)]

@@ -3,8 +3,8 @@
 import unittest
 
 from tests.helper import (
-    ADVANCE, CREATE, GET_RING, GET_SECTION, MIRROR, ROTATE, SET_ALL, SET_SECTION, SIT_DOWN, STAND_UP, START_WAVE, STEP,
-    all_rings, play, play_on, ring_behind, sample_rings)
+    ADVANCE, CREATE, GET_RING, MIRROR, ROTATE, SET_ALL, SET_SECTION, SIT_DOWN, STAND_UP, START_WAVE, STEP, all_rings,
+    play, play_on, ring_behind, sample_rings)
 
 
 class Create(unittest.TestCase):
@@ -158,18 +158,6 @@ class SitDown(unittest.TestCase):
 
     def test_largest_ring(self):
         self.assertEqual(play_on([1, 2] * 6, (SIT_DOWN,), (GET_RING,)), [[12], [12] + [0] * 12])
-
-
-class Queries(unittest.TestCase):
-    def test_get_ring_and_get_section_agree(self):
-        for states in sample_rings():
-            n = len(states)
-            answer = play_on(states, (GET_RING,), *[(GET_SECTION, i) for i in range(n)])
-            self.assertEqual(answer, [[n] + states] + [[state] for state in states])
-
-    def test_get_section_of_the_first_and_the_last(self):
-        answer = play_on([1, 0, 2], (GET_SECTION, 0), (GET_SECTION, 1), (GET_SECTION, 2))
-        self.assertEqual(answer, [[1], [0], [2]])
 
 
 if __name__ == "__main__":

@@ -5,13 +5,14 @@ import unittest
 from seatwave import ring
 from seatwave.ring import answers
 from tests.helper import (
-    ADVANCE, CREATE, GET_RING, GET_SECTION, GREATEST, MIRROR, ROTATE, SET_ALL, SET_SECTION, SIT_DOWN, STAND_UP,
-    START_WAVE, STEP, call_list, play)
+    ADVANCE, CREATE, CYCLE, GET_RING, GET_SECTION, GET_STATE, GREATEST, MAX_STANDING, MIRROR, RING_AFTER, ROTATE,
+    SET_ALL, SET_SECTION, SIT_DOWN, STAND_UP, START_WAVE, STEP, STEPS_UNTIL_QUIET, call_list, play, queries)
 
 EVERY_CALL = call_list([
     (GET_RING,), (CREATE, 2), (CREATE, 5), (SET_SECTION, 4, 2), (SET_ALL, [0, 0, 0, 1, 2]), (SET_ALL, []),
     (SET_ALL, [65535] * 16), (STAND_UP, 0), (STAND_UP, GREATEST), (SIT_DOWN,), (START_WAVE, 1, 0), (STEP,),
-    (ADVANCE, 40), (ROTATE, 12), (MIRROR,), (GET_RING,), (GET_SECTION, 0), (CREATE, 13), (GET_SECTION, 5)])
+    (ADVANCE, 40), (ROTATE, 12), (MIRROR,), (GET_RING,), (GET_SECTION, 0), (CREATE, 13), (GET_SECTION, 5),
+    *queries(5), (SIT_DOWN,), *queries(5), (STAND_UP, 4), *queries(5)])
 
 
 class GuardedList(list):
@@ -34,6 +35,29 @@ class ListOfCalls(unittest.TestCase):
         self.assertEqual(
             answers(calls), [1, 0, 1, 1, 1, 1, 1, 6, 1, 6, 7, 6, 1, 0, 0, 0, 0, 2, 1, 2, 7, 6, 0, 0, 0, 0, 0, 0])
 
+    def test_each_query_with_its_arguments(self):
+        calls = [0, 6, 4, 2, 0, 12, 3, 13, 14, 15, 16, 17, 18, 19, 20, 5, 21, 3, 22, 11, 1, 10]
+        self.assertEqual(answers(calls), [
+            1, 0, 1, 1, 7, 6, 0, 0, 0, 0, 2, 1, 2, 0, -1, 1, -33, 2, 0, 6, 2, 1, 2, 1, 0, 1, 1, 1, 1, 1, 3, 1, -33,
+            3, 6, 0, 1, 1, 2, 7, 6, 0, 2, 1, 0, 0, 0])
+
+    def test_each_query_of_a_quiet_ring(self):
+        calls = [0, 3, 12, 40, 13, 14, 15, 16, 17, 18, 19, 20, 0, 21, 0, 22]
+        self.assertEqual(answers(calls), [
+            1, 0, 4, 3, 0, 0, 0, 2, 0, 0, 1, 0, 2, 0, 1, 1, 0, 1, 0, 1, 0, 1, 0, 1, -33, 1, 3, 3, 3, 0, 0])
+
+    def test_a_winding_number_above_0_and_one_below(self):
+        self.assertEqual(answers([0, 3, 2, 3, 0, 1, 2, 13, 8, 13]), [1, 0, 1, 0, 2, 0, 1, 1, 3, 2, 0, -1])
+
+    def test_several_waves_number_by_number(self):
+        calls = [0, 12, 2, 12, 2, 1, 0, 2, 1, 0, 2, 1, 0, 0, 1, 2, 16, 17]
+        self.assertEqual(answers(calls), [1, 0, 1, 0, 4, 3, 1, 4, 7, 2, 1, 10])
+
+    def test_a_refused_query_is_its_code_alone(self):
+        calls = [22, 0, 3, 12, 41, 20, 3, 21, 3, 20, 0, 3, 0, 21, 0, 2, 3, 0, 1, 2, 14]
+        self.assertEqual(answers(calls), [
+            1, -11, 1, 0, 1, -22, 1, -2, 1, -2, 1, -33, 1, 1, 1, -17, 1, 0, 1, -33])
+
     def test_a_refusal_is_its_code_alone(self):
         self.assertEqual(answers([10, 0, 3, 11, 3, 6, 41, 3, 0, 3, 0]), [1, -11, 1, 0, 1, -2, 1, -22, 1, 1, 1, -17])
 
@@ -54,6 +78,12 @@ class ListOfCalls(unittest.TestCase):
         self.assertEqual(len(answer), 256)
         self.assertEqual(answer[2::2], [[1]] * 127)
         self.assertEqual(answer[-1], [12, 0, 0, 0, 0, 0, 0, 2, 1, 0, 0, 0, 0])
+
+    def test_256_calls_that_look_ahead(self):
+        look = [(RING_AFTER, 40), (CYCLE,), (MAX_STANDING,), (STEPS_UNTIL_QUIET,), (GET_STATE,)]
+        answer = play((CREATE, 12), *look * 51)
+        self.assertEqual(len(answer), 256)
+        self.assertEqual(answer[1:], [[12] + [0] * 12, [0, 1], [0], [0], [12, 0, 0]] * 51)
 
     def test_answers_are_a_list_of_whole_numbers(self):
         given = answers(list(EVERY_CALL))
